@@ -1,0 +1,1 @@
+"""Bobbin lace: the pillow."""
