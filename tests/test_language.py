@@ -1,4 +1,4 @@
-"""The package keeps to its small part of Python: what of the rules can be seen in the files."""
+"""The package keeps to its small part of Python: those rules that are easy to see in the files, not all of them."""
 
 import ast
 import builtins
