@@ -105,3 +105,33 @@ def common_beginning(one, other):
             left.clear()
             right.clear()
     return common
+
+
+def left_behind(lace, beginning):
+    """The acts left of a lace behind a beginning of it.
+
+    An act touches itself, so what the beginning has of an act are the lace's first ones of it.
+    """
+    gone = {}
+    for act in beginning:
+        gone[act] = gone.get(act, 0) + 1
+    left = []
+    for act in lace:
+        if gone.get(act, 0) > 0:
+            gone[act] = gone[act] - 1
+        else:
+            left.append(act)
+    return left
+
+
+def first_acts(acts):
+    """The acts, rising, that can stand first in the lace of a working."""
+    held = {}
+    firsts = []
+    for act in acts:
+        left = left_place(act)
+        if left not in held and left + 1 not in held:
+            firsts.append(act)
+        held[left] = True
+        held[left + 1] = True
+    return sorted(firsts)

@@ -25,7 +25,7 @@ def lay_pattern(pillow, word, acts):
         return [FULL]
     patterns = dict(pillow.patterns)
     patterns[word] = form(acts)
-    pillow.change(pillow.piece, patterns)
+    pillow.change(pillow.pairs, pillow.piece, patterns)
     return [DONE]
 
 
@@ -76,5 +76,5 @@ def drop(pillow, name):
         return [ABSENT]
     left = dict(pillow.patterns)
     left.pop(word)
-    pillow.change(pillow.piece, left)
+    pillow.change(pillow.pairs, pillow.piece, left)
     return [DONE]

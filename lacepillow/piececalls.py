@@ -3,7 +3,6 @@
 from lacepillow.laces import common_beginning, is_act, taken_back, worked_behind
 from lacepillow.limits import MOST_ACTS
 from lacepillow.refusals import ABSENT, DONE, FAULTY, FULL, UNFIT, WRONG
-from lacepillow.words import text_of
 
 
 def refusal_of_acts(pillow, acts):
@@ -17,7 +16,7 @@ def refusal_of_acts(pillow, acts):
 
 def lay_piece(pillow, piece):
     """Lay another piece, and answer how many acts it has."""
-    pillow.change(piece, pillow.patterns)
+    pillow.change(pillow.pairs, piece, pillow.patterns)
     return [DONE, len(piece)]
 
 
@@ -33,10 +32,9 @@ def work(pillow, acts):
 
 def workby(pillow, name, times):
     """Work a pattern behind the piece, so many times."""
-    word = text_of(name)
-    if word not in pillow.patterns:
+    pattern = pillow.pattern_under(name)
+    if pattern is None:
         return [ABSENT]
-    pattern = pillow.patterns[word]
     if len(pillow.piece) + len(pattern) * times > MOST_ACTS:
         return [FULL]
     return lay_piece(pillow, worked_behind(pillow.piece, pattern * times))
@@ -55,11 +53,10 @@ def back(pillow, acts):
 
 def mend(pillow, name):
     """Make the piece the pattern, and answer how many acts are undone for it, how many worked."""
-    word = text_of(name)
-    if word not in pillow.patterns:
+    pattern = pillow.pattern_under(name)
+    if pattern is None:
         return [ABSENT]
-    pattern = pillow.patterns[word]
     common = len(common_beginning(pillow.piece, pattern))
     undone = len(pillow.piece) - common
-    pillow.change(pattern, pillow.patterns)
+    pillow.change(pillow.pairs, pattern, pillow.patterns)
     return [DONE, undone, len(pattern) - common]

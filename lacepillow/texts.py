@@ -1,10 +1,9 @@
 """Texts: what the lines of a text mean, and which fault they have."""
 
 from lacepillow.laces import act_of_letter
-from lacepillow.limits import MOST_PAIRS
+from lacepillow.limits import MOST_BYTES, MOST_PAIRS
 from lacepillow.words import is_name, number_of, text_of
 
-MOST_BYTES = 16384
 MOST_WORKED = 4096
 DEEPEST = 8
 

@@ -17,6 +17,11 @@ def text_of(codes):
     return "".join([signs.get(code, OTHER_SIGN) for code in codes])
 
 
+def counted_codes(word):
+    """How many bytes the word has, and these."""
+    return [len(word)] + [ord(sign) for sign in word]
+
+
 def is_name(word):
     """Whether the word is a name."""
     if not 1 <= len(word) <= LONGEST_NAME or word in NO_NAMES:

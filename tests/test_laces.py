@@ -3,27 +3,8 @@
 import itertools
 import unittest
 
-from helper import back, begin, keep, last, mend, told, work
+from helper import back, begin, first_working, keep, last, mend, places, same_laces, told, work
 from lacepillow.laces import common_beginning, form, is_act, taken_back, touch, worked_behind
-
-
-def places(act):
-    return {2 * act, 2 * act + 1} if act < 64 else {2 * (act - 64) + 1, 2 * (act - 64) + 2}
-
-
-def same_laces(acts):
-    """All workings that are this lace, by changing about again and again."""
-    seen = {tuple(acts)}
-    todo = [tuple(acts)]
-    while todo:
-        one = todo.pop()
-        for k in range(len(one) - 1):
-            if not places(one[k]) & places(one[k + 1]):
-                other = one[:k] + (one[k + 1], one[k]) + one[k + 2:]
-                if other not in seen:
-                    seen.add(other)
-                    todo.append(other)
-    return seen
 
 
 def workings(acts, longest):
@@ -51,6 +32,7 @@ class Laces(unittest.TestCase):
     def test_form_is_the_first_of_the_same(self):
         for acts in SMALL[2] + SMALL[3] + list(MIXED):
             self.assertEqual(form(acts), list(min(same_laces(acts))))
+            self.assertEqual(first_working(acts), form(acts))
 
     def test_working_behind(self):
         for acts in MIXED:

@@ -23,6 +23,7 @@ STATEMENTS = (ast.FunctionDef, ast.ClassDef, ast.Assign, ast.AugAssign, ast.If, 
               ast.Continue, ast.Pass, ast.Raise, ast.Try, ast.Expr, ast.ImportFrom)
 EXPRESSIONS = (ast.Constant, ast.List, ast.Tuple, ast.Dict, ast.BinOp, ast.UnaryOp, ast.BoolOp, ast.Compare, ast.IfExp,
                ast.Call, ast.Attribute, ast.Subscript, ast.Slice, ast.ListComp, ast.Name, ast.Lambda)
+CHANGING = "append clear extend insert pop remove reverse setdefault update".split()
 WALKED = ("zip", "enumerate", "reversed", "range")
 WALKERS = ("list", "tuple", "dict", "sorted", "sum", "any", "all", "enumerate", "zip", "min", "max")
 
@@ -103,7 +104,34 @@ class Language(unittest.TestCase):
             self.assertEqual((node.args.vararg, node.args.kwarg, node.args.kwonlyargs), (None, None, []), place)
             self.assertIsNone(node.returns, place)
         for place, node in self.nodes(ast.ClassDef):
-            self.assertEqual((node.decorator_list, node.bases), ([], []), place)
+            self.assertEqual((node.decorator_list, node.keywords), ([], []), place)
+            self.assertIn([ast.unparse(base) for base in node.bases], ([], ["Exception"], ["ValueError"]), place)
+
+    def test_errors(self):
+        """Only the package's own errors are raised and taken, and they are made on the spot."""
+        own = [node.name for place, node in self.nodes(ast.ClassDef) if node.bases]
+        for place, node in self.nodes(ast.ExceptHandler):
+            self.assertIn(ast.unparse(node.type), own, place)
+        for place, node in self.nodes(ast.Raise):
+            self.assertIsInstance(node.exc, ast.Call, place)
+            self.assertIn(ast.unparse(node.exc.func), own, place)
+        for place, node in self.nodes(ast.Try):
+            self.assertEqual(node.finalbody, [], place)
+
+    def test_what_is_walked_is_not_changed(self):
+        for place, node in self.nodes(ast.For):
+            walked = node.iter
+            while isinstance(walked, ast.Call) and (walked.args or isinstance(walked.func, ast.Attribute)):
+                walked = walked.args[0] if walked.args else walked.func.value
+            for inner in [one for row in node.body for one in ast.walk(row)]:
+                if isinstance(inner, ast.Call) and isinstance(inner.func, ast.Attribute) and inner.func.attr in CHANGING:
+                    self.assertNotEqual(ast.unparse(inner.func.value), ast.unparse(walked), place)
+                if isinstance(inner, ast.Subscript) and isinstance(inner.ctx, ast.Store):
+                    self.assertNotEqual(ast.unparse(inner.value), ast.unparse(walked), place)
+
+    def test_no_sets(self):
+        for place, node in self.nodes(ast.Name):
+            self.assertNotIn(node.id, ("set", "frozenset"), place)
 
     def test_imports(self):
         drawn = {}
